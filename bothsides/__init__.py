@@ -1,0 +1,1 @@
+"""Figures of lines, stitched alike on both sides of a cloth."""
