@@ -1,54 +1,8 @@
-"""Points 1 to 4 and the interface, through bothsides.cloth.answers alone."""
+"""Points 1 to 4, through bothsides.cloth.answers alone."""
 
-import builtins
-import contextlib
-import io
-import random
 import unittest
-from unittest import mock
 
-from bothsides.cloth import answers
-
-START = [0]
-THREADS = [3]
-HIGHEST = 4294967295
-
-
-def line(a, b):
-    return [1, a, b]
-
-
-def drop(number):
-    return [2, number]
-
-
-def laid(calls):
-    """The calls one behind another in one list."""
-    numbers = []
-    for call in calls:
-        numbers.extend(call)
-    return numbers
-
-
-def told(*calls):
-    """The one number answered to each call; each must stand alone behind its count."""
-    given = answers(laid(calls))
-    if len(given) != 2 * len(calls) or given[0::2] != [1] * len(calls):
-        raise AssertionError(f"not one number for each of {len(calls)} calls: {given}")
-    return given[1::2]
-
-
-def told_after(before, *calls):
-    """What is answered to the calls that come behind those before."""
-    return told(*before, *calls)[len(before):]
-
-
-# 24 lines that all have the hole 0: one figure.
-STAR = [START] + [line(0, k) for k in range(1, 25)]
-# 24 lines without a common hole: 24 figures.
-APART = [START] + [line(2 * k, 2 * k + 1) for k in range(24)]
-# 24 lines round in a ring of 24 holes.
-RING = [START] + [line(k + 40, (k + 1) % 24 + 40) for k in range(23)] + [line(63, 40)]
+from tests.calls import APART, HIGHEST, PATH, RING, STAR, START, THREADS, drop, line, told, told_after
 
 
 class Start(unittest.TestCase):
@@ -263,146 +217,12 @@ class Threads(unittest.TestCase):
         self.assertEqual(told_after(APART, THREADS), [24])
         pairs = [line(3 * k, 3 * k + 1) for k in range(12)] + [line(3 * k + 2, 3 * k + 1) for k in range(12)]
         self.assertEqual(told_after([START] + pairs, THREADS), [12])
-        path = [line(k, k + 1) for k in range(24)]
-        self.assertEqual(told_after([START] + path, THREADS), [1])
-        self.assertEqual(told_after([START] + path[::-1], THREADS), [1])
+        self.assertEqual(told_after(PATH, THREADS), [1])
+        self.assertEqual(told_after([START] + PATH[:0:-1], THREADS), [1])
 
     def test_asking_changes_nothing(self):
         before = [START, line(1, 2), THREADS, THREADS]
         self.assertEqual(told_after(before, line(2, 1), line(3, 4), THREADS), [-17, 1, 2])
-
-
-class Plain:
-    """The same promises, said another way: lines by number in a dict, figures by melting sets."""
-
-    def __init__(self):
-        self.ends = {}
-
-    def told(self, call):
-        return (self.start, self.line, self.drop, self.threads)[call[0]](*call[1:])
-
-    def start(self):
-        self.ends = {}
-        return 0
-
-    def line(self, a, b):
-        if not {a, b} <= set(range(64)) or len({a, b}) == 1:
-            return -22
-        if {a, b} in self.ends.values():
-            return -17
-        if len(self.ends) == 24:
-            return -28
-        number = min(set(range(24)) - set(self.ends))
-        self.ends[number] = {a, b}
-        return number
-
-    def drop(self, number):
-        return -2 if self.ends.pop(number, None) is None else 0
-
-    def threads(self):
-        figures = []
-        for ends in self.ends.values():
-            melted = set(ends).union(*[figure for figure in figures if figure & ends])
-            figures = [figure for figure in figures if not figure & ends] + [melted]
-        return len(figures)
-
-
-def some_call(source, holes, starts):
-    kind = source.randrange(100)
-    if kind < starts:
-        return START
-    if kind < 55:
-        return line(source.randrange(holes), source.randrange(holes))
-    if kind < 75:
-        return drop(source.randrange(26))
-    return THREADS
-
-
-class Interface(unittest.TestCase):
-    def same(self, given, asked):
-        """For long lists: the first difference alone, as to lay out all of them takes many minutes."""
-        self.assertEqual(len(given), len(asked))
-        for k in range(len(asked)):
-            self.assertEqual(given[k], asked[k], f"at {k}")
-
-    def test_how_many_numbers_then_these(self):
-        calls = [0, 3, 1, 5, 6, 1, 6, 5, 1, 64, 0, 3, 2, 0, 2, 0, 3]
-        self.assertEqual(answers(calls), [1, 0, 1, 0, 1, 0, 1, -17, 1, -22, 1, 1, 1, 0, 1, -2, 1, 0])
-
-    def test_one_call(self):
-        self.assertEqual(answers([0]), [1, 0])
-
-    def test_arguments_that_look_like_calls(self):
-        calls = [0, 1, 1, 2, 1, 0, 1, 1, 3, 0, 2, 0, 2, 1, 3, 2, 2, 3]
-        self.assertEqual(answers(calls), [1, 0, 1, 0, 1, 1, 1, 2, 1, 0, 1, 0, 1, 1, 1, 0, 1, 0])
-
-    def test_kinds_of_what_is_given_back(self):
-        given = answers(laid(STAR + [THREADS, drop(3), drop(3), line(1, 1)]))
-        self.assertIs(type(given), list)
-        self.assertEqual({type(number) for number in given}, {int})
-
-    def test_1000_calls(self):
-        turn = [line(0, 1), line(1, 2), THREADS, drop(0), drop(1)]
-        calls = [START] + turn * 199 + [THREADS] * 4
-        self.assertEqual(len(calls), 1000)
-        self.same(told(*calls), [0] + [0, 1, 1, 0, 0] * 199 + [0] * 4)
-
-    def test_1000_starts(self):
-        self.same(answers([0] * 1000), [1, 0] * 1000)
-
-    def test_1000_calls_at_24_lines(self):
-        self.same(told_after(APART, *[THREADS] * 975), [24] * 975)
-        self.same(told_after(RING, *[line(0, 1)] * 975), [-28] * 975)
-
-    def test_against_the_promises_said_another_way(self):
-        for seed, holes in enumerate((4, 6, 8, 10, 16, 24, 40, 64, 66) * 4):
-            source = random.Random(seed)
-            calls = [START] + [some_call(source, holes, seed % 3) for _ in range(999)]
-            plain = Plain()
-            self.same(told(*calls), [plain.told(call) for call in calls])
-
-    def test_what_is_handed_in_is_as_it_was(self):
-        calls = laid(STAR + [THREADS, drop(3), line(0, 64), START, line(9, 8), THREADS])
-        before = list(calls)
-        answers(calls)
-        self.assertEqual(calls, before)
-
-    def test_what_is_handed_in_is_not_changed_for_a_while_either(self):
-        calls = laid(STAR + [THREADS, drop(3), line(0, 64), START, line(9, 8), THREADS])
-        self.assertEqual(answers(Unchanging(calls)), answers(calls))
-
-    def test_a_second_time(self):
-        calls = laid(STAR + [THREADS, drop(3), line(0, 64), THREADS])
-        first = answers(calls)
-        self.assertEqual(answers(calls), first)
-        self.assertIsNot(answers(calls), first)
-
-    def test_nothing_is_kept(self):
-        answers(laid(APART))
-        self.assertEqual(told(START, THREADS, line(0, 1), THREADS), [0, 0, 0, 1])
-        # What was given back is the asker's own: to change it changes no later answer.
-        answers([0, 3]).append(7)
-        self.assertEqual(answers([0, 3]), [1, 0, 1, 0])
-
-    def test_nothing_is_printed_read_or_imported(self):
-        calls = laid(STAR + [THREADS, drop(3), line(0, 64), line(0, 1), START, THREADS])
-        shown = io.StringIO()
-        with contextlib.redirect_stdout(shown), contextlib.redirect_stderr(shown):
-            with mock.patch.object(builtins, "__import__", side_effect=AssertionError("imported")), \
-                    mock.patch.object(builtins, "open", side_effect=AssertionError("opened")), \
-                    mock.patch.object(builtins, "input", side_effect=AssertionError("read")):
-                answers(calls)
-        self.assertEqual(shown.getvalue(), "")
-
-
-class Unchanging(list):
-    """A list that refuses each change."""
-
-    def refuse(self, *args, **kwargs):
-        raise AssertionError("what was handed in was changed")
-
-    append = extend = insert = pop = remove = clear = sort = reverse = refuse
-    __setitem__ = __delitem__ = __iadd__ = __imul__ = refuse
 
 
 if __name__ == "__main__":
